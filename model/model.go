@@ -5,6 +5,7 @@ import (
 	"slices"
 
 	"cordon/api"
+	"cordon/truth"
 )
 
 // Check tells what is wrong with a model, the first thing of the chapter's order.
@@ -41,7 +42,7 @@ func Holds(m api.Model, con int, values []int) (bool, api.Errno) {
 			return false, api.ErrRange
 		}
 	}
-	return holds(m.Cons[con], values), api.OK
+	return truth.Con(m.Cons[con], values), api.OK
 }
 
 // All: may the variables have these values, and do all constraints hold of them?
@@ -59,7 +60,7 @@ func All(m api.Model, values []int) (bool, api.Errno) {
 		}
 	}
 	for _, c := range m.Cons {
-		if !holds(c, values) {
+		if !truth.Con(c, values) {
 			return false, api.OK
 		}
 	}

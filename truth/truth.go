@@ -1,4 +1,6 @@
-package model
+// Package truth: what constraints and literals mean, as package api says it. It looks for nothing that may be wrong: whoever
+// asks has checked what it asks of.
+package truth
 
 import (
 	"slices"
@@ -6,8 +8,8 @@ import (
 	"cordon/api"
 )
 
-// holds: does a constraint that is right hold of values of all variables, none beyond MaxValue?
-func holds(c api.Con, values []int) bool {
+// Con: does a constraint that is right hold of values of all variables, none beyond MaxValue?
+func Con(c api.Con, values []int) bool {
 	own := valuesOf(c.Vars, values)
 	switch c.Kind {
 	case api.ConLe:
@@ -28,9 +30,9 @@ func holds(c api.Con, values []int) bool {
 	case api.ConMax:
 		return own[0] == slices.Max(own[1:])
 	case api.ConClause:
-		return slices.ContainsFunc(c.Lits, func(l api.Lit) bool { return litHolds(l, values) })
+		return slices.ContainsFunc(c.Lits, func(l api.Lit) bool { return Lit(l, values[l.Var]) })
 	case api.ConIff:
-		return own[0] == oneIf(litHolds(c.Lits[0], values))
+		return own[0] == oneIf(Lit(c.Lits[0], values[c.Lits[0].Var]))
 	}
 	return false
 }
@@ -64,17 +66,17 @@ func differ(values []int) bool {
 	return true
 }
 
-func litHolds(l api.Lit, values []int) bool {
-	v := values[l.Var]
+// Lit: does a literal hold of a value of its variable? The value may be any.
+func Lit(l api.Lit, value int) bool {
 	switch l.Op {
 	case api.OpLe:
-		return v <= l.N
+		return value <= l.N
 	case api.OpGe:
-		return v >= l.N
+		return value >= l.N
 	case api.OpEq:
-		return v == l.N
+		return value == l.N
 	case api.OpNe:
-		return v != l.N
+		return value != l.N
 	}
 	return false
 }
