@@ -1,5 +1,5 @@
-// Package truth: what constraints and literals mean, as package api says it. It looks for nothing that may be wrong: whoever
-// asks has checked what it asks of.
+// Package truth: what constraints, clauses and literals mean, as package api says it. It looks for nothing that may be
+// wrong: whoever asks has checked what it asks of.
 package truth
 
 import (
@@ -30,7 +30,7 @@ func Con(c api.Con, values []int) bool {
 	case api.ConMax:
 		return own[0] == slices.Max(own[1:])
 	case api.ConClause:
-		return slices.ContainsFunc(c.Lits, func(l api.Lit) bool { return Lit(l, values[l.Var]) })
+		return Clause(c.Lits, values)
 	case api.ConIff:
 		return own[0] == oneIf(Lit(c.Lits[0], values[c.Lits[0].Var]))
 	}
@@ -79,6 +79,16 @@ func Lit(l api.Lit, value int) bool {
 		return value != l.N
 	}
 	return false
+}
+
+// Clause: does one of its literals hold of values of all variables? The values may be any.
+func Clause(c api.Clause, values []int) bool {
+	return slices.ContainsFunc(c, func(l api.Lit) bool { return Lit(l, values[l.Var]) })
+}
+
+// OneOf a clause's literals: does one of that variable hold of a value of it?
+func OneOf(c api.Clause, v, value int) bool {
+	return slices.ContainsFunc(c, func(l api.Lit) bool { return l.Var == v && Lit(l, value) })
 }
 
 func oneIf(b bool) int {
