@@ -62,6 +62,15 @@ func Lits(vars []api.Var, p Part) api.Clause {
 	return out
 }
 
+// Store that has just these.
+func Store(vars []api.Var, p Part) api.Store {
+	out := make(api.Store, len(vars))
+	for _, l := range Lits(vars, p) {
+		out[l.Var] = append(out[l.Var], l.N)
+	}
+	return out
+}
+
 // Points of a constraint: all values of its variables of which it holds, each a part with one value of each of them.
 func Points(m api.Model, con int) []Part {
 	scope, _ := model.Scope(m, con) // no error: it is there
@@ -94,16 +103,22 @@ func Says(vars []api.Var, points []Part, held Part) bool {
 // Fails: is there, if none of what is held may be, a variable with no values, or do clauses, each one told by what it holds
 // of, take all, one value after the other?
 func Fails(vars []api.Var, clauses []Part, held Part) bool {
-	left := Whole(vars) &^ held
-	if lacking(vars, left) {
-		return true
+	return Units(vars, clauses, Whole(vars)&^held) == 0
+}
+
+// Units tells what clauses, each one told by what it holds of, leave of values, till nothing changes. If a variable has none
+// at any time, it is nothing.
+func Units(vars []api.Var, clauses []Part, p Part) Part {
+	if lacking(vars, p) {
+		return 0
 	}
+	left := p
 	for before := Part(0); before != left; {
 		before = left
 		for _, c := range clauses {
 			open := left & c
 			if open == 0 {
-				return true
+				return 0
 			}
 			own := fieldOf(open)
 			if open&^own == 0 {
@@ -111,7 +126,38 @@ func Fails(vars []api.Var, clauses []Part, held Part) bool {
 			}
 		}
 	}
-	return false
+	return left
+}
+
+// Left of values by a constraint: those that are part of one of its points, and all of variables that it has not. If it has
+// no points there, it is nothing.
+func Left(points []Part, p Part) Part {
+	var scope, stay Part
+	found := false
+	for _, q := range points {
+		if q&^p == 0 {
+			scope, stay, found = q, stay|q, true
+		}
+	}
+	if !found {
+		return 0
+	}
+	for ; scope != 0; scope &^= fieldOf(scope) { // a point has a value of each of the constraint's variables
+		p &^= fieldOf(scope)
+	}
+	return p | stay
+}
+
+// Why a constraint says so: a clause of literals that stand anyway, and of as many as it asks for of the values that are
+// gone, each a literal. One that can't be spared now can't be with fewer beside it, so that once through them is enough.
+func Why(vars []api.Var, points []Part, anyway api.Clause, gone Part) api.Clause {
+	held := Held(vars, anyway)
+	for rest := gone; rest != 0; rest &= rest - 1 {
+		if spared := gone &^ (rest & -rest); Says(vars, points, held|spared) {
+			gone = spared
+		}
+	}
+	return append(slices.Clone(anyway), Lits(vars, gone)...)
 }
 
 // lacking: has a variable no values?
