@@ -56,7 +56,13 @@ func those(m api.Model) [][]int {
 
 // worth of values: how good they are, more being better.
 func worth(m api.Model, values []int) int {
-	return map[int]int{api.GoalLeast: -1, api.GoalMost: 1}[m.Goal] * values[m.Var]
+	switch m.Goal {
+	case api.GoalLeast:
+		return -values[m.Var]
+	case api.GoalMost:
+		return values[m.Var]
+	}
+	return 0
 }
 
 // wrong tells what is wrong with an answer, by the calls of chapters 2 and 9.
@@ -67,8 +73,11 @@ func wrong(m api.Model, a api.Answer) string {
 		if ok, e := model.All(m, a.Values); !ok || e != api.OK {
 			return fmt.Sprintf("all holds: %v %d", ok, e)
 		}
+		if m.Goal == api.GoalAny && len(a.Proof) == 0 {
+			return ""
+		}
 		if m.Goal == api.GoalAny {
-			return map[bool]string{false: "a proof"}[len(a.Proof) == 0]
+			return "a proof"
 		}
 		c, e := Better(m, a.Values)
 		if e != api.OK {
@@ -80,7 +89,10 @@ func wrong(m api.Model, a api.Answer) string {
 			return "values"
 		}
 	case api.VerdictUnknown:
-		return map[bool]string{false: "values, or a proof"}[len(a.Values) == 0 && len(a.Proof) == 0]
+		if len(a.Values) != 0 || len(a.Proof) != 0 {
+			return "values, or a proof"
+		}
+		return ""
 	default:
 		return "no verdict"
 	}
